@@ -1,0 +1,1 @@
+"""Steps towards a solution, with every error told exactly."""
