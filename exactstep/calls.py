@@ -1,18 +1,17 @@
-"""What each call does to the object, and what it answers: a list of numbers."""
+"""The calls that hold code or a point, and those that tell of the point: each answers a list of numbers."""
 
-from exactstep.fraction import quick_lowest, read_fractions, sum_of_squares, weight
-from exactstep.held import results_here, step_here, table_here
+from exactstep.fraction import minus, plus, read_fractions, sum_of_squares, weight
+from exactstep.held import place_at, results_at, results_here, step_here, table_here
 from exactstep.lines import read_lines, uses_fit
-from exactstep.refusals import FAULT_AT_POINT, NO_POINT, NOT_REFUSED, OUT_OF_RANGE
+from exactstep.refusals import FAULT_AT_POINT, NOT_REFUSED, OUT_OF_RANGE
 from exactstep.refusals import TOO_HEAVY, TOO_MANY_LINES, WRONG_FORM, WRONG_USE
-from exactstep.run import MOST_HELD_WEIGHT
 from exactstep.slopes import straight_picture
-from exactstep.solve import LEAST_SQUARES, NEWTON
+from exactstep.solve import is_kind, lowest_step
+from exactstep.telling import MOST_TOLD_WEIGHT, may_be_taken, place_refusal, run_answer, told
 
 MOST_INPUTS = 4
 MOST_LINES = 60
 MOST_RESULTS = 6
-MOST_TOLD_WEIGHT = 6000
 
 
 def answer_code(held, inputs, numbers, outs):
@@ -48,36 +47,10 @@ def answer_point(held, numbers):
     point = read_fractions(numbers, held.inputs)
     if point is None:
         return [WRONG_FORM]
-    if any([weight(fraction) > MOST_HELD_WEIGHT for fraction in point]):
+    if not may_be_taken(point):
         return [TOO_HEAVY]
-    held.hold_point(point)
+    held.hold_place(place_at(held, point))
     return run_answer(held.place.fault)
-
-
-def run_answer(fault):
-    if fault is None:
-        return [0]
-    return [1, fault[0], fault[1]]
-
-
-def place_refusal(held):
-    """Why what hangs on the run at the point can't be told."""
-    if held.place is None:
-        return NO_POINT
-    if held.place.fault is not None:
-        return FAULT_AT_POINT
-    return NOT_REFUSED
-
-
-def told(head, fractions):
-    """The head's numbers, then each fraction's two; or the refusal, if one is too heavy."""
-    numbers = list(head)
-    for fraction in fractions:
-        if weight(fraction) > MOST_TOLD_WEIGHT:
-            return [TOO_HEAVY]
-        numbers.append(fraction[0])
-        numbers.append(fraction[1])
-    return numbers
 
 
 def answer_results(held):
@@ -99,7 +72,7 @@ def answer_table(held):
 
 
 def answer_step(held, kind):
-    if kind != NEWTON and kind != LEAST_SQUARES:
+    if not is_kind(kind):
         return [OUT_OF_RANGE]
     refusal = place_refusal(held)
     if refusal != NOT_REFUSED:
@@ -108,18 +81,23 @@ def answer_step(held, kind):
     if pairs is None:
         return [0]
     step = lowest_step(pairs)
-    if step is None:
+    # Looked at ahead of the straight picture, which takes long with a heavy step.
+    if step is None or any([weight(part) > MOST_TOLD_WEIGHT for part in step]):
         return [TOO_HEAVY]
     pictures = straight_picture(table_here(held), results_here(held), step)
     return told([1], step + pictures + [sum_of_squares(pictures)])
 
 
-def lowest_step(pairs):
-    """The step's fractions; None if one is too heavy to be told."""
-    step = []
-    for top, bottom in pairs:
-        fraction = quick_lowest(top, bottom)
-        if fraction is None or weight(fraction) > MOST_TOLD_WEIGHT:
-            return None
-        step.append(fraction)
-    return step
+def answer_error(held, numbers):
+    step = read_fractions(numbers, held.inputs)
+    if step is None:
+        return [WRONG_FORM]
+    refusal = place_refusal(held)
+    if refusal != NOT_REFUSED:
+        return [refusal]
+    reached = place_at(held, [plus(part, more) for part, more in zip(held.place.point, step)])
+    if reached.fault is not None:
+        return [FAULT_AT_POINT]
+    pictures = straight_picture(table_here(held), results_here(held), step)
+    errors = [minus(result, picture) for result, picture in zip(results_at(held, reached), pictures)]
+    return told([len(errors)], errors)

@@ -2,11 +2,12 @@
 
 ZERO = (0, 1)
 ONE = (1, 1)
+HALF = (1, 2)
 
 # Euclid's way takes at most 5 divisions for each decimal digit of the smaller number, and one more
-# if the smaller comes first. In a fraction with a weight up to 6000 the smaller number has at most
-# 3000 binary digits, so at most 904 decimal ones.
-MOST_DIVISIONS = 4521
+# if the smaller comes first. In a fraction with a weight up to 6100 the smaller number has at most
+# 3050 binary digits, so at most 919 decimal ones.
+MOST_DIVISIONS = 4596
 
 
 def common_divisor(first, second):
@@ -48,7 +49,7 @@ def lowest(top, bottom):
 
 
 def quick_lowest(top, bottom):
-    """As lowest, but None for some fractions with a weight above 6000.
+    """As lowest, but None for some fractions with a weight above 6100.
 
     Numbers with very many digits may stand for a short fraction. How many divisions Euclid's way
     takes hangs on that fraction alone, so with a long one we needn't go on to the end.
@@ -83,6 +84,8 @@ def minus(first, second):
 
 
 def times(first, second):
+    if first == second:
+        return (first[0] * first[0], first[1] * first[1])
     # Each factor is in lowest terms, so only numbers from different factors share divisors.
     falling = common_divisor(first[0], second[1])
     rising = common_divisor(second[0], first[1])
@@ -92,6 +95,15 @@ def times(first, second):
 def over(first, second):
     """The first divided by the second, which isn't 0."""
     return times(first, divided(second[1], second[0], 1))
+
+
+def is_less(first, second):
+    return first[0] * second[1] < second[0] * first[1]
+
+
+def nearest(fraction, bottom):
+    """The nearest of the whole numbers over bottom; of two as near the greater."""
+    return lowest((2 * fraction[0] * bottom + fraction[1]) // (2 * fraction[1]), bottom)
 
 
 def sum_of_squares(fractions):

@@ -32,14 +32,23 @@ class Held:
         self.outs = outs
         self.place = None
 
-    def hold_point(self, point):
-        ran = run(self.lines, point)
-        self.place = Place(point, ran[0], ran[1])
+    def hold_place(self, place):
+        self.place = place
+
+
+def place_at(held, point):
+    """The place that a point is with the code that's held."""
+    ran = run(held.lines, point)
+    return Place(point, ran[0], ran[1])
+
+
+def results_at(held, place):
+    """The values of the results; as with all that follows, the run there had no fault."""
+    return [place.line_values[out] for out in held.outs]
 
 
 def results_here(held):
-    """The values of the results; as with all that follows, the run at the point had no fault."""
-    return [held.place.line_values[out] for out in held.outs]
+    return results_at(held, held.place)
 
 
 def table_here(held):

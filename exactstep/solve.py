@@ -5,10 +5,14 @@ A step is a list of pairs of whole numbers, top and bottom, that needn't be in l
 bring them there takes long if they have many digits, and it isn't needed on the way.
 """
 
-from exactstep.fraction import common_divisor, negative
+from exactstep.fraction import common_divisor, negative, quick_lowest
 
 NEWTON = 0
 LEAST_SQUARES = 1
+
+
+def is_kind(kind):
+    return kind == NEWTON or kind == LEAST_SQUARES
 
 
 def find_step(kind, table, results, inputs):
@@ -119,3 +123,11 @@ def read_step(stepped, leads, inputs):
     for place, column in enumerate(leads):
         step[column] = (stepped[place][inputs], stepped[place][column])
     return step
+
+
+def lowest_step(step):
+    """The step's fractions in lowest terms; None if one is far too heavy, as quick_lowest tells."""
+    fractions = [quick_lowest(top, bottom) for top, bottom in step]
+    if None in fractions:
+        return None
+    return fractions

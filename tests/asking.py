@@ -6,6 +6,7 @@ RESULTS = [2]
 TABLE = [3]
 NEWTON = [4, 0]
 LEAST = [4, 1]
+LOOKS = [RESULTS, TABLE, NEWTON, LEAST]
 
 
 def row(numbers):
@@ -23,6 +24,36 @@ def raw_code(n, numbers, outs):
 
 def point(*numbers):
     return [1] + row(numbers)
+
+
+def take(kind, n, m):
+    return [5, kind, n, m]
+
+
+def descend(kind, k):
+    return [6, kind, k]
+
+
+def error(*numbers):
+    return [7] + row(numbers)
+
+
+def halve(i, k, *ends):
+    return [8, i, k] + row(ends)
+
+
+def round_to(b):
+    return [9, b]
+
+
+def parted(call):
+    """One laid out call as the model takes it: its number, its whole numbers and its rows."""
+    wholes = (1, 0, 0, 0, 1, 3, 2, 0, 2, 1)[call[0]]
+    parts, rest = call[:1 + wholes], call[1 + wholes:]
+    while rest:
+        parts.append(rest[1:1 + rest[0]])
+        rest = rest[1 + rest[0]:]
+    return parts
 
 
 def ask(*calls):
@@ -72,6 +103,35 @@ def steep(lines, base, two, exponent):
         found = len(lines) - 1
     lines.append((4, found, power(lines, two, exponent % 1500)))
     return len(lines) - 1
+
+
+def steep_and_high(exponent):
+    """Code with the result x times 2 to the power, plus 1: at 0 the step is -1 over that power."""
+    lines = [(0, 0), (1, 2, 1), (1, 1, 1)]
+    lines.append((2, 2, steep(lines, 0, 1, exponent)))
+    return code(1, lines, [len(lines) - 1])
+
+
+def steep_and_long(many):
+    """Code with the result x times a fraction to the power 16 * many, plus 1.
+
+    Each 16 add 1920 to the step's weight, and Euclid's way takes long with its two numbers.
+    """
+    lines = [(0, 0), (1, 10 ** 18 - 11, 10 ** 18 - 33), (1, 1, 1)]
+    big = power(lines, 1, 16)
+    found = 0
+    for _ in range(many):
+        lines.append((4, found, big))
+        found = len(lines) - 1
+    lines.append((2, found, 2))
+    return code(1, lines, [len(lines) - 1])
+
+
+def flat_and_low(exponent, factor=1):
+    """Code with the result x times the factor over 2 to the power, less 1."""
+    lines = [(0, 0), (1, 1, 2), (1, 1, 1), (1, factor, 1), (4, 0, 3)]
+    lines.append((3, steep(lines, 4, 1, exponent), 2))
+    return code(1, lines, [len(lines) - 1])
 
 
 def sum_weight(twos, threes):

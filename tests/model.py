@@ -55,25 +55,39 @@ def reduced(rows, columns):
     return solution, len(lead_of) == columns, solvable
 
 
+def fractions(numbers, many):
+    if len(numbers) != 2 * many or any(bottom < 1 for bottom in numbers[1::2]):
+        raise Refused(-2)
+    return [Fraction(top, bottom) for top, bottom in zip(numbers[::2], numbers[1::2])]
+
+
+def squares(values):
+    return sum((value * value for value in values), Fraction(0))
+
+
+def straight(f, table, d):
+    return [x + sum((a * b for a, b in zip(row, d)), Fraction(0)) for row, x in zip(table, f)]
+
+
 class Model:
     def __init__(self):
         self.n, self.lines, self.outs, self.at = 0, [], [], None
 
     def call(self, parts):
-        names = ("code", "point", "results", "table", "step")
+        names = ("code", "point", "results", "table", "step", "take", "descend", "error", "halve", "round")
         try:
             return getattr(self, names[parts[0]])(*parts[1:])
         except Refused as refused:
             return [refused.args[0]]
 
-    def run(self):
+    def run(self, at):
         """Each line's value with its derivatives, or the fault."""
         worked = []
         for place, line in enumerate(self.lines):
             kind = line[0]
             if kind == 0:
                 slopes = [Fraction(int(k == line[1])) for k in range(self.n)]
-                worked.append((self.at[line[1]], slopes))
+                worked.append((at[line[1]], slopes))
             elif kind == 1:
                 worked.append((Fraction(line[1], line[2]), [Fraction(0)] * self.n))
             elif kind == 6:
@@ -99,15 +113,15 @@ class Model:
     def here(self):
         if self.at is None:
             raise Refused(-4)
-        worked, fault = self.run()
+        worked, fault = self.run(self.at)
         if fault:
             raise Refused(-5)
         return [worked[out][0] for out in self.outs], [worked[out][1] for out in self.outs]
 
-    def tell(self, head, fractions):
-        if any(weight(value) > 6000 for value in fractions):
+    def tell(self, head, values):
+        if any(weight(value) > 6000 for value in values):
             raise Refused(-6)
-        return head + [number for value in fractions for number in (value.numerator, value.denominator)]
+        return head + [number for value in values for number in (value.numerator, value.denominator)]
 
     def code(self, n, numbers, outs):
         if n not in (1, 2, 3, 4):
@@ -126,39 +140,124 @@ class Model:
         return [len(lines)]
 
     def point(self, numbers):
-        if len(numbers) != 2 * self.n or any(bottom < 1 for bottom in numbers[1::2]):
-            raise Refused(-2)
-        taken = [Fraction(top, bottom) for top, bottom in zip(numbers[::2], numbers[1::2])]
-        if any(weight(value) > 2000 for value in taken):
+        return self.become(fractions(numbers, self.n))
+
+    def become(self, at):
+        if any(weight(value) > 2000 for value in at):
             raise Refused(-6)
-        self.at = taken
-        return self.run()[1] or [0]
+        self.at = at
+        return self.run(at)[1] or [0]
+
+    def results_at(self, at):
+        """None with a fault."""
+        worked, fault = self.run(at)
+        return None if fault else [worked[out][0] for out in self.outs]
 
     def results(self):
         f, _ = self.here()
-        return self.tell([len(f)], f + [sum((x * x for x in f), Fraction(0))])
+        return self.tell([len(f)], f + [squares(f)])
 
     def table(self):
         _, table = self.here()
         return self.tell([len(table), self.n], [x for row in table for x in row])
 
+    def find_step(self, kind):
+        """None if there's none."""
+        f, table = self.here()
+        if kind == 0:
+            d, only, solvable = reduced([row + [-x] for row, x in zip(table, f)], self.n)
+            return d if only and solvable else None
+        equations = []
+        for i in range(self.n):
+            left = [sum((row[i] * row[j] for row in table), Fraction(0)) for j in range(self.n)]
+            equations.append(left + [-sum((row[i] * x for row, x in zip(table, f)), Fraction(0))])
+        d, _, solvable = reduced(equations, self.n)
+        assert solvable
+        return d
+
     def step(self, kind):
         if kind not in (0, 1):
             raise Refused(-1)
         f, table = self.here()
-        if kind == 0:
-            d, only, solvable = reduced([row + [-x] for row, x in zip(table, f)], self.n)
-            if not (only and solvable):
+        d = self.find_step(kind)
+        if d is None:
+            return [0]
+        picture = straight(f, table, d)
+        return self.tell([1], d + picture + [squares(picture)])
+
+    def take(self, kind, n, m):
+        if kind not in (0, 1) or m < 1:
+            raise Refused(-1)
+        d = self.find_step(kind)
+        if d is None:
+            return [0]
+        return [1] + self.become([x + Fraction(n, m) * y for x, y in zip(self.at, d)])
+
+    def descend(self, kind, k):
+        if kind not in (0, 1) or k not in range(21):
+            raise Refused(-1)
+        d = self.find_step(kind)
+        if d is None:
+            return [0]
+        before = squares(self.results_at(self.at))
+        for halvings in range(k + 1):
+            tried = [x + y / 2 ** halvings for x, y in zip(self.at, d)]
+            f = self.results_at(tried)
+            if f is not None and squares(f) < before:
+                answer = self.tell([2, halvings], [before, squares(f)])
+                self.become(tried)
+                return answer
+        return [1]
+
+    def error(self, numbers):
+        d = fractions(numbers, self.n)
+        f, table = self.here()
+        there = self.results_at([x + y for x, y in zip(self.at, d)])
+        if there is None:
+            raise Refused(-5)
+        return self.tell([len(f)], [x - y for x, y in zip(there, straight(f, table, d))])
+
+    def halve(self, i, k, numbers):
+        if i not in range(len(self.outs)) or k not in range(101):
+            raise Refused(-1)
+        a, b = fractions(numbers, 2)
+        if self.n != 1:
+            raise Refused(-8)
+        at_a, at_b = self.results_at([a]), self.results_at([b])
+        if at_a is None or at_b is None:
+            return [0]
+        if at_a[i] == 0:
+            return self.tell([1], [a])
+        if at_b[i] == 0:
+            return self.tell([1], [b])
+        if at_a[i] * at_b[i] > 0:
+            return [0]
+        for _ in range(k):
+            middle = (a + b) / 2
+            at_middle = self.results_at([middle])
+            if at_middle is None:
                 return [0]
-        else:
-            equations = []
-            for i in range(self.n):
-                left = [sum((row[i] * row[j] for row in table), Fraction(0)) for j in range(self.n)]
-                equations.append(left + [-sum((row[i] * x for row, x in zip(table, f)), Fraction(0))])
-            d, _, solvable = reduced(equations, self.n)
-            assert solvable
-        picture = [x + sum((a * b for a, b in zip(row, d)), Fraction(0)) for row, x in zip(table, f)]
-        return self.tell([1], d + picture + [sum((x * x for x in picture), Fraction(0))])
+            if at_middle[i] == 0:
+                return self.tell([1], [middle])
+            if at_middle[i] * at_a[i] > 0:
+                a = middle
+            else:
+                b = middle
+        return self.tell([2], [a, b])
+
+    def round(self, b):
+        if b not in range(201):
+            raise Refused(-1)
+        if self.at is None:
+            raise Refused(-4)
+        was = self.at
+        self.become([Fraction(nearest_whole(x * 2 ** b), 2 ** b) for x in was])
+        return self.tell([self.n], [x - y for x, y in zip(was, self.at)])
+
+
+def nearest_whole(value):
+    below = value.numerator // value.denominator
+    return below if value - below < below + 1 - value else below + 1
 
 
 def model_answers(parted_calls):

@@ -30,6 +30,11 @@ class FractionTest(unittest.TestCase):
                 if second != 0:
                     self.assertEqual(fraction.over(one, two), pair(first / second))
 
+    def test_is_less(self):
+        for first in small_fractions():
+            for second in small_fractions():
+                self.assertEqual(fraction.is_less(pair(first), pair(second)), first < second)
+
     def test_weight(self):
         self.assertEqual(fraction.weight((0, 1)), 1)
         self.assertEqual(fraction.weight((1, 1)), 2)
@@ -39,9 +44,9 @@ class FractionTest(unittest.TestCase):
     def test_quick_lowest_finds_what_may_be_told(self):
         # Neighbours in Fibonacci's row take the most divisions for their length.
         smaller, larger = 1, 1
-        while smaller.bit_length() < 3000:
+        while smaller.bit_length() < 3050:
             smaller, larger = larger, smaller + larger
-        while smaller.bit_length() + larger.bit_length() > 6000:
+        while smaller.bit_length() + larger.bit_length() > 6100:
             smaller, larger = larger - smaller, smaller
         many = 3 ** 5000
         for top, bottom in ((smaller, larger), (larger, smaller), (-smaller, larger)):

@@ -67,6 +67,8 @@ class LanguageTest(unittest.TestCase):
                 if isinstance(node, ast.ListComp):
                     self.assertEqual(len(node.generators), 1)
                     self.assertLessEqual(len(node.generators[0].ifs), 1)
+                if isinstance(node, ast.BinOp) and isinstance(node.op, ast.Pow):
+                    self.assertIsInstance(node.right, ast.Constant)
                 if isinstance(node, (ast.For, ast.While)):
                     self.assertEqual(node.orelse, [])
 

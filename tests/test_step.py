@@ -1,6 +1,7 @@
 import unittest
 
-from tests.asking import LEAST, NEWTON, RESULTS, TABLE, ask, code, last, point, power, powers_with, steep, two_powers
+from tests.asking import LEAST, NEWTON, RESULTS, TABLE, ask, code, last, point, power, powers_with
+from tests.asking import steep, steep_and_high, steep_and_long, two_powers
 
 X = (0, 0)
 
@@ -22,13 +23,6 @@ def straight(rows, n):
 
 def at_zero(rows, kind, n):
     return last(straight(rows, n), point(*[0, 1] * n), kind)
-
-
-def steep_and_high(exponent):
-    """Code with the result x times 2 to the power, plus 1."""
-    lines = [X, (1, 2, 1), (1, 1, 1)]
-    lines.append((2, 2, steep(lines, 0, 1, exponent)))
-    return code(1, lines, [len(lines) - 1])
 
 
 class NewtonTest(unittest.TestCase):
@@ -71,6 +65,13 @@ class NewtonTest(unittest.TestCase):
         self.assertEqual(last(steep_and_high(5998), point(0, 1), NEWTON), [1, -1, 2 ** 5998, 0, 1, 0, 1])
         self.assertEqual(last(steep_and_high(5999), point(0, 1), NEWTON), [-6])
         self.assertEqual(last(steep_and_high(5999), point(0, 1), LEAST), [-6])
+
+    def test_long_steps(self):
+        for many in (1, 2, 3):
+            self.assertEqual(last(steep_and_long(many), point(0, 1), NEWTON)[:2], [1, -(10 ** 18 - 33) ** (16 * many)])
+        for many in (4, 5, 10, 40):
+            for kind in (NEWTON, LEAST):
+                self.assertEqual(last(steep_and_long(many), point(0, 1), kind), [-6])
 
     def test_a_heavy_table_may_give_a_light_step(self):
         lines = [X, (1, 2, 1)]
